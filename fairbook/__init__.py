@@ -1,0 +1,1 @@
+"""Fairbook: an exchange whose book never crosses."""
