@@ -184,9 +184,34 @@ class NamesTest(LanguageCase):
                 names += [alias.asname or alias.name for alias in getattr(node, "names", [])]
             self.assertEqual(len(names), len(set(names)), path.name)
 
+    def test_l15_no_parameter_or_local_is_called_like_a_class_or_an_import(self):
+        for path in package_files():
+            nodes = nodes_of(path)
+            taken = {node.name for node in nodes if isinstance(node, ast.ClassDef)}
+            taken |= {alias.name for node in nodes if isinstance(node, ast.ImportFrom) for alias in node.names}
+            for node in nodes:
+                if isinstance(node, (ast.arg, ast.Name)) and taken.intersection(bound_names(node)):
+                    self.fault(path, node, "a parameter or local called like a class or an import")
+
+    def test_l16_no_two_files_draw_from_one_another(self):
+        drawn = {}
+        for path in package_files():
+            rows = [node for node in nodes_of(path) if isinstance(node, ast.ImportFrom)]
+            drawn[path.stem] = {node.module.split(".")[1] for node in rows}
+        while drawn:
+            ready = [name for name in drawn if not drawn[name] & set(drawn)]
+            self.assertTrue(ready, f"these draw from one another: {sorted(drawn)}")
+            drawn = {name: drawn[name] for name in drawn if name not in ready}
+
+    def test_l26_own_methods_and_values(self):
+        pythons = {name for kind in (str, int, list, tuple, dict, set, bytes) for name in dir(kind)}
+        free_methods = set(DUNDER_METHODS) | set(METHODS) | {"add", "discard"}
+        self.assertEqual(self.own_methods() & pythons - free_methods, set())
+        free_values = set("count index title find get join lower upper split strip copy add".split())
+        self.assertEqual(self.own_values() & pythons - free_values, set())
+
     def test_l18_no_name_is_both_a_method_and_a_value(self):
-        values = {n.attr for p, n in self.walk() if isinstance(n, ast.Attribute) and isinstance(n.ctx, ast.Store)}
-        self.assertEqual(values & self.own_methods(), set())
+        self.assertEqual(self.own_values() & self.own_methods(), set())
 
     def test_l25_methods_that_are_called(self):
         own = self.own_methods()
@@ -194,6 +219,9 @@ class NamesTest(LanguageCase):
             if isinstance(node, ast.Call) and isinstance(node.func, ast.Attribute):
                 if node.func.attr not in METHODS and node.func.attr not in own:
                     self.fault(path, node, f"the method {node.func.attr} is out")
+
+    def own_values(self):
+        return {n.attr for p, n in self.walk() if isinstance(n, ast.Attribute) and isinstance(n.ctx, ast.Store)}
 
     def own_methods(self):
         classes = [node for path, node in self.walk() if isinstance(node, ast.ClassDef)]
